@@ -1,0 +1,1 @@
+"""Ropesays: equations tied into ropes, what any tangle lets through, and every rope for it."""

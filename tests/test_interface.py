@@ -1,0 +1,73 @@
+"""The head of the interface: everything listed is defined under its name in its own file."""
+
+import ast
+import importlib
+import inspect
+import os
+import unittest
+
+ROOT = os.path.dirname(os.path.dirname(os.path.abspath(__file__)))
+
+PART = ("part",)
+
+# For each module each function with its parameters, and each class with those of its __init__.
+FUNCTIONS = {
+    "checks": {
+        "is_integer": ("value",), "is_within": ("value", "least", "most"), "is_clock": ("value",),
+        "is_row": ("value", "clock", "size"),
+    },
+    "papers": {"fixed": ("value",)},
+    "clocks": {
+        "number_of": ("clock", "value"), "inverse": ("clock", "number"), "row_sum": ("clock", "one", "other"),
+        "row_times": ("clock", "number", "row"),
+    },
+}
+CLASSES = {
+    "errors": {
+        "BadNumber": PART, "BadClock": PART, "BadRow": PART, "BadSpace": PART, "BadTangle": PART,
+        "BadSystem": PART, "BadWord": PART, "Misfit": PART, "NoName": ("value",), "Twice": ("value",),
+        "TooMany": ("what", "most"), "Nothing": (), "BadText": ("line", "item"), "BadLine": ("line", "error"),
+    },
+    "papers": {"Paper": ("word", "parts"), "Denial": ("word", "parts")},
+}
+METHODS = {("papers", "Paper"): ("__eq__",), ("papers", "Denial"): ("__eq__",)}
+
+
+def definitions(module, kind):
+    """The definitions of one kind at the top of a module's file, by their names."""
+    with open(os.path.join(ROOT, "ropesays", module + ".py"), encoding="ascii") as file:
+        body = ast.parse(file.read()).body
+    return {node.name: node for node in body if isinstance(node, kind)}
+
+
+class TestInterface(unittest.TestCase):
+
+    def test_functions(self):
+        for module, listed in FUNCTIONS.items():
+            loaded, defined = importlib.import_module("ropesays." + module), definitions(module, ast.FunctionDef)
+            for name, parameters in listed.items():
+                self.assertIn(name, defined)
+                told = inspect.signature(getattr(loaded, name)).parameters
+                self.assertEqual(tuple(told), parameters, name)
+
+    def test_classes(self):
+        for module, listed in CLASSES.items():
+            loaded, defined = importlib.import_module("ropesays." + module), definitions(module, ast.ClassDef)
+            for name, parameters in listed.items():
+                self.assertIn(name, defined)
+                self.assertIn("__init__", vars(getattr(loaded, name)), name)
+                told = inspect.signature(getattr(loaded, name)).parameters
+                self.assertEqual(tuple(told), parameters, name)
+
+    def test_methods_stand_in_their_own_class(self):
+        for (module, name), listed in METHODS.items():
+            own = vars(getattr(importlib.import_module("ropesays." + module), name))
+            for method in listed:
+                self.assertIn(method, own)
+
+    def test_rope_error_is_defined_in_its_file(self):
+        self.assertIn("RopeError", definitions("errors", ast.ClassDef))
+
+
+if __name__ == "__main__":
+    unittest.main()
