@@ -16,6 +16,12 @@ def demand_within(value, least, most, part):
         raise BadNumber(part)
 
 
+def demand_even(value, least, most, part):
+    """Refuse what is no even integer from least to most."""
+    if not is_within(value, least, most) or value % 2 != 0:
+        raise BadNumber(part)
+
+
 def demand_row(row, clock, least, most, part):
     """Refuse what is no row of a clock, of a size from least to most."""
     if not isinstance(row, (list, tuple)) or not least <= len(row) <= most:

@@ -44,6 +44,8 @@ NO_INTEGERS = (
     object(), int, len, ValueError("3"), Agreeing(), Refusing(),
 )
 
+NO_CLOCKS = tuple(value for value in range(-40, 70) if value not in CLOCKS) + (10 ** 40, -10 ** 40, *NO_INTEGERS)
+
 NO_LISTS = (
     None, True, False, 0, 1, 3, -1, 10 ** 30, 1.0, 3j, "", "1", "00", "1 1", b"", b"\x01\x01",
     {}, {0: 1, 1: 1}, set(), {0, 1}, frozenset([0, 1]), range(2), iter([1, 1]), object(),

@@ -4,19 +4,8 @@ import unittest
 
 from ropesays.clocks import inverse, number_of, row_sum, row_times
 from ropesays.errors import BadClock, BadNumber, BadRow, Misfit
-from tests.odd import CLOCKS, NO_INTEGERS, NO_LISTS
-
-NO_CLOCKS = [value for value in range(-40, 70) if value not in CLOCKS]
-NO_CLOCKS = NO_CLOCKS + [10 ** 40, -10 ** 40] + list(NO_INTEGERS)
-
-
-class Refusals(unittest.TestCase):
-
-    def refused(self, kind, part, call, *told, **named):
-        with self.assertRaises(kind) as caught:
-            call(*told, **named)
-        self.assertIs(type(caught.exception), kind)
-        self.assertEqual(caught.exception.part, part)
+from tests.odd import CLOCKS, NO_CLOCKS, NO_INTEGERS, NO_LISTS
+from tests.refusals import Refusals
 
 
 class TestExamples(Refusals):

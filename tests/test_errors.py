@@ -7,6 +7,9 @@ from ropesays.errors import (
     BadClock, BadLine, BadNumber, BadRow, BadSpace, BadSystem, BadTangle, BadText, BadWord,
     Misfit, NoName, Nothing, RopeError, TooMany, Twice,
 )
+from ropesays.fairs import fair_spaces
+from ropesays.spaces import Space, holds, meeting, rows_in
+from ropesays.tangles import Tangle, turned
 
 FIELDS = {
     BadNumber: ("part",), BadClock: ("part",), BadRow: ("part",), BadSpace: ("part",),
@@ -77,6 +80,27 @@ class TestErrors(unittest.TestCase):
                 raise made
             self.assertIs(caught.exception, made)
             self.assertIsInstance(str(made), str)
+
+    def test_errors_that_calls_raise_keep_their_fields(self):
+        plane = Space(31, 3, [(1, 0, 0), (0, 1, 0), (0, 0, 1)])
+        for kind, fields, call, told in (
+                (BadClock, {"part": "clock"}, Space, (4, 2, [])),
+                (BadNumber, {"part": "size"}, Space, (3, 401, [])),
+                (BadRow, {"part": "rows"}, Space, (3, 2, [(3, 0)])),
+                (BadSpace, {"part": "other"}, meeting, (plane, None)),
+                (BadRow, {"part": "row"}, holds, (plane, (0, 0))),
+                (Misfit, {"part": "other"}, meeting, (plane, Space(3, 3, []))),
+                (TooMany, {"what": "rows", "most": 2500}, rows_in, (plane,)),
+                (TooMany, {"what": "spaces", "most": 400}, fair_spaces, (31, 16)),
+                (TooMany, {"what": "ends", "most": 24}, Tangle, (0, [("open", 0)] * 13)),
+                (BadText, {"line": 1, "item": 0}, Space.read, ("clock 3 size 1\n2",)),
+                (BadText, {"line": 0, "item": 0}, Tangle.read, (None,)),
+                (BadTangle, {"part": "deeds"}, Tangle, (2, [("join",)])),
+                (BadTangle, {"part": "tangle"}, turned, (plane, 0))):
+            with self.assertRaises(RopeError) as caught:
+                call(*told)
+            self.assertIs(type(caught.exception), kind)
+            self.assertEqual({name: getattr(caught.exception, name) for name in fields}, fields)
 
 
 if __name__ == "__main__":

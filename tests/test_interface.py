@@ -21,6 +21,19 @@ FUNCTIONS = {
         "number_of": ("clock", "value"), "inverse": ("clock", "number"), "row_sum": ("clock", "one", "other"),
         "row_times": ("clock", "number", "row"),
     },
+    "spaces": {
+        "holds": ("space", "row"), "meeting": ("one", "other"), "joined_space": ("one", "other"),
+        "upright": ("space",), "rows_in": ("space",),
+    },
+    "rims": {
+        "swing": ("clock", "one", "other"), "is_chess": ("clock", "row"), "chess_rows": ("clock", "ends"),
+        "beside": ("space",), "turned_space": ("space", "gap"),
+    },
+    "fairs": {"is_fair": ("space",), "fair_count": ("clock", "ends"), "fair_spaces": ("clock", "ends")},
+    "tangles": {"turned": ("tangle", "gap")},
+    "regions": {
+        "regions_of": ("tangle",), "rim_of": ("tangle",), "rings_of": ("tangle",), "crossings_of": ("tangle",),
+    },
 }
 CLASSES = {
     "errors": {
@@ -29,8 +42,13 @@ CLASSES = {
         "TooMany": ("what", "most"), "Nothing": (), "BadText": ("line", "item"), "BadLine": ("line", "error"),
     },
     "papers": {"Paper": ("word", "parts"), "Denial": ("word", "parts")},
+    "spaces": {"Space": ("clock", "size", "rows")},
+    "tangles": {"Tangle": ("ends", "deeds")},
 }
-METHODS = {("papers", "Paper"): ("__eq__",), ("papers", "Denial"): ("__eq__",)}
+METHODS = {
+    ("papers", "Paper"): ("__eq__",), ("papers", "Denial"): ("__eq__",),
+    ("spaces", "Space"): ("__eq__", "__str__", "read"), ("tangles", "Tangle"): ("__eq__", "__str__", "read"),
+}
 
 
 def definitions(module, kind):
@@ -64,6 +82,8 @@ class TestInterface(unittest.TestCase):
             own = vars(getattr(importlib.import_module("ropesays." + module), name))
             for method in listed:
                 self.assertIn(method, own)
+            if "read" in listed:
+                self.assertIsInstance(own["read"], (staticmethod, classmethod))
 
     def test_rope_error_is_defined_in_its_file(self):
         self.assertIn("RopeError", definitions("errors", ast.ClassDef))
