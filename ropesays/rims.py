@@ -4,11 +4,12 @@ from ropesays.checks import is_within
 from ropesays.demands import demand_clock, demand_even, demand_row, demand_within
 from ropesays.errors import BadRow, Misfit
 from ropesays.spaces import Space, demand_space, upright
+from ropesays.steps import step_at
 
 MOST_GAPS = 16
 
 
-def _demand_rim_row(clock, row, part):
+def demand_rim_row(clock, row, part):
     """Refuse what is no row of the gaps of a rim with ends."""
     demand_row(row, clock, 2, MOST_GAPS, part)
     if len(row) % 2 != 0:
@@ -18,8 +19,8 @@ def _demand_rim_row(clock, row, part):
 def swing(clock, one, other):
     """The sum, over all gaps k, of one[k] other[k + 1] - one[k + 1] other[k], round the clock."""
     demand_clock(clock)
-    _demand_rim_row(clock, one, "one")
-    _demand_rim_row(clock, other, "other")
+    demand_rim_row(clock, one, "one")
+    demand_rim_row(clock, other, "other")
     if len(one) != len(other):
         raise Misfit("other")
     return sum([number * step for number, step in zip(other, _steps(one))]) % clock
@@ -27,13 +28,13 @@ def swing(clock, one, other):
 
 def _steps(row):
     """For each gap the number of the gap ahead of it, less that of the gap behind it."""
-    return [row[at - 1] - row[(at + 1) % len(row)] for at in range(len(row))]
+    return [step_at(row, gap) for gap in range(len(row))]
 
 
 def is_chess(clock, row):
     """Whether a row is a chess row."""
     demand_clock(clock)
-    _demand_rim_row(clock, row, "row")
+    demand_rim_row(clock, row, "row")
     return all([number == row[at % 2] for at, number in enumerate(row)])
 
 

@@ -34,6 +34,11 @@ FUNCTIONS = {
     "regions": {
         "regions_of": ("tangle",), "rim_of": ("tangle",), "rings_of": ("tangle",), "crossings_of": ("tangle",),
     },
+    "ropes": {"ropes_of": ("tangle",), "loops_of": ("tangle",)},
+    "markings": {"broken_at": ("tangle", "clock", "marks"), "markings": ("tangle", "clock")},
+    "through": {"through": ("tangle", "clock"), "free_depth": ("tangle", "clock")},
+    "rows": {"judged_row": ("tangle", "clock", "row")},
+    "check_rows": {"shows_row": ("tangle", "clock", "row", "value")},
 }
 CLASSES = {
     "errors": {
@@ -44,6 +49,7 @@ CLASSES = {
     "papers": {"Paper": ("word", "parts"), "Denial": ("word", "parts")},
     "spaces": {"Space": ("clock", "size", "rows")},
     "tangles": {"Tangle": ("ends", "deeds")},
+    "rows": {"Filled": ("marks",), "Barred": ("marks",)},
 }
 METHODS = {
     ("papers", "Paper"): ("__eq__",), ("papers", "Denial"): ("__eq__",),

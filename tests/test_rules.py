@@ -28,6 +28,9 @@ NO_NAMES = """register mro elements open input law version_info with_traceback a
 NO_WORDS = """type typing typing_extensions enum Enum IntEnum StrEnum Flag IntFlag Generic Protocol ABC ABCMeta
     namedtuple NamedTuple TypedDict TYPE_CHECKING abstractmethod _wall _WallAttr""".split()
 
+NO_BEGINS = ("_wall", "_pe_", "_dcw_", "_enum_", "_cm_", "_twin_re_", "_lay_", "_law_", "_stub_", "_sre", "_WallAttr",
+             "_cold", "_tuplegetter", "_outside", "_record", "_written_out", "_member_names")
+
 # What takes a list instead of a generator expression, as classes of the package compare.
 TAKES_LISTS = ("any", "all", "min", "max", "sum", "sorted")
 
@@ -122,6 +125,7 @@ class TestNames(unittest.TestCase):
         for name, bound in bound_names():
             self.assertFalse(hasattr(builtins, bound) and not bound.startswith("__"), (name, bound))
             self.assertNotIn(bound, NO_NAMES, name)
+            self.assertFalse(bound.startswith(NO_BEGINS), (name, bound))
             self.assertRegex(bound, "^(_|_?[A-Za-z][A-Za-z0-9_]*|__[a-z]+__)$", name)
 
     def test_builtins_that_are_used(self):
