@@ -5,6 +5,7 @@ from ropesays.errors import BadText, Misfit, TooMany
 from ropesays.texts import demand_items, line_of, written
 
 WORDS = ("over", "under", "join", "open", "turn")
+CROSSINGS = ("over", "under")
 MOST_DEEDS = 4000
 MOST_ENDS = 24
 
@@ -33,7 +34,7 @@ def _fitting_gaps(word, many):
     return list(range(many))
 
 
-def _ends_behind(word, many):
+def ends_behind(word, many):
     """How many ends a ring of so many ends has behind a deed of a word."""
     if word == "join":
         return many - 2
@@ -48,7 +49,7 @@ def demand_fitting(deeds, ends, inner):
     for word, gap in deeds:
         if gap not in _fitting_gaps(word, many):
             raise Misfit("deeds")
-        many = _ends_behind(word, many)
+        many = ends_behind(word, many)
         if many > MOST_ENDS:
             raise TooMany("ends", MOST_ENDS)
     if many != inner:
@@ -62,7 +63,7 @@ def deed_lines(deeds):
 
 def _fitting_words(many):
     """The words of which a deed can be done at some gap of a ring of so many ends."""
-    return tuple([word for word in WORDS if _fitting_gaps(word, many) and _ends_behind(word, many) <= MOST_ENDS])
+    return tuple([word for word in WORDS if _fitting_gaps(word, many) and ends_behind(word, many) <= MOST_ENDS])
 
 
 def read_deeds(lines, ends, inner):
@@ -74,7 +75,7 @@ def read_deeds(lines, ends, inner):
         words = _fitting_words(many) if line <= MOST_DEEDS else ()
         demand_items(lines[line], line, (words, written(_fitting_gaps(word, many))))
         deeds.append((word, int(lines[line][1])))
-        many = _ends_behind(word, many)
+        many = ends_behind(word, many)
     if many != inner:
         raise BadText(len(lines), 0)
     return deeds

@@ -35,6 +35,11 @@ def is_chess(clock, row):
     """Whether a row is a chess row."""
     demand_clock(clock)
     demand_rim_row(clock, row, "row")
+    return alternates(row)
+
+
+def alternates(row):
+    """Whether the numbers of a row at even places are all alike, and so are those at odd ones."""
     return all([number == row[at % 2] for at, number in enumerate(row)])
 
 

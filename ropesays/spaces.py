@@ -133,14 +133,19 @@ def _upright_by(space, leads, at):
     return row
 
 
+def demand_few_rows(clock, depth):
+    """Refuse a clock and a depth by which a space has too many rows."""
+    many = 1
+    for _ in range(depth):
+        many = many * clock
+    if many > MOST_TOLD:
+        raise TooMany("rows", MOST_TOLD)
+
+
 def rows_in(space):
     """All rows of a space, ascending."""
     demand_space(space, "space")
-    many = 1
-    for _ in space.rows:
-        many = many * space.clock
-    if many > MOST_TOLD:
-        raise TooMany("rows", MOST_TOLD)
+    demand_few_rows(space.clock, space.depth)
     # The last row of the least form is the first one to be added: so the rows come ascending.
     told = [(0,) * space.size]
     for row in reversed(space.rows):

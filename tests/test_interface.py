@@ -39,6 +39,16 @@ FUNCTIONS = {
     "through": {"through": ("tangle", "clock"), "free_depth": ("tangle", "clock")},
     "rows": {"judged_row": ("tangle", "clock", "row")},
     "check_rows": {"shows_row": ("tangle", "clock", "row", "value")},
+    "moves": {
+        "move_words": (), "moves_at": ("tangle", "at"), "moved": ("tangle", "at", "word"), "pulled": ("tangle",),
+    },
+    "rings": {
+        "may_set": ("clock", "row", "gap"), "set_at": ("clock", "row", "gap", "number"),
+        "judged_ring": ("clock", "row"),
+    },
+    "check_rings": {"shows_ring": ("clock", "row", "value")},
+    "fewest": {"fewest_sets": ("clock", "row")},
+    "tied": {"tied_most": ("clock", "ends"), "tied": ("space",)},
 }
 CLASSES = {
     "errors": {
@@ -50,6 +60,7 @@ CLASSES = {
     "spaces": {"Space": ("clock", "size", "rows")},
     "tangles": {"Tangle": ("ends", "deeds")},
     "rows": {"Filled": ("marks",), "Barred": ("marks",)},
+    "rings": {"Led": ("sets",), "Chess": ()},
 }
 METHODS = {
     ("papers", "Paper"): ("__eq__",), ("papers", "Denial"): ("__eq__",),

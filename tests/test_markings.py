@@ -172,13 +172,14 @@ class TestTheGreatest(Soon, Refusals):
                 self.assertTrue(all(broken_at(tangle, clock, marks) is None for marks in told.rows))
 
     def test_four_thousand_deeds(self):
-        for tangle in (Tangle(0, some_deeds(0, 3988, random.Random(40))), Tangle(2, [("over", 1)] * 3999 + [("join", 1)])):
+        twist = Tangle(2, [("over", 1)] * 3999 + [("join", 1)])
+        for tangle in (Tangle(0, some_deeds(0, 3988, random.Random(40))), twist):
             with self.soon():
                 self.too_many("regions", 400, markings, tangle, 3)
                 self.assertIs(broken_at(tangle, 31, [30] * regions_of(tangle)), None)
         marks = [30] * 4001
         marks[4000] = 29
-        self.assertEqual(broken_at(tangle, 31, marks), 3998)
+        self.assertEqual(broken_at(twist, 31, marks), 3998)
 
 
 class TestRefusals(Refusals):

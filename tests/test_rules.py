@@ -66,6 +66,15 @@ def bound_names():
             yield name, node.name
 
 
+def is_bound_inside(node, body):
+    """Whether a node gives a variable or a parameter the name of a class or an import of its file."""
+    kept = [alias.name for each in body if isinstance(each, ast.ImportFrom) for alias in each.names]
+    kept += [each.name for each in body if isinstance(each, ast.ClassDef)]
+    if isinstance(node, ast.arg):
+        return node.arg in kept
+    return isinstance(node, ast.Name) and isinstance(node.ctx, ast.Store) and node.id in kept
+
+
 class TestFiles(unittest.TestCase):
 
     def test_file_names(self):
@@ -127,6 +136,16 @@ class TestNames(unittest.TestCase):
             self.assertNotIn(bound, NO_NAMES, name)
             self.assertFalse(bound.startswith(NO_BEGINS), (name, bound))
             self.assertRegex(bound, "^(_|_?[A-Za-z][A-Za-z0-9_]*|__[a-z]+__)$", name)
+
+    def test_imports_and_classes_keep_their_names(self):
+        for name, text in files().items():
+            body = ast.parse(text).body
+            told = [alias.name for node in body if isinstance(node, ast.ImportFrom) for alias in node.names]
+            told += [node.name for node in body if isinstance(node, (ast.ClassDef, ast.FunctionDef))]
+            told += [node.targets[0].id for node in body if isinstance(node, ast.Assign)]
+            self.assertEqual(len(told), len(set(told)), name)
+            for node in ast.walk(ast.parse(text)):
+                self.assertFalse(is_bound_inside(node, body), (name, getattr(node, "lineno", 0)))
 
     def test_builtins_that_are_used(self):
         for name, node in nodes(ast.Name):

@@ -105,7 +105,7 @@ class TestByHand(Refusals):
                 self.assertEqual((through(tangle, 3).rows, free_depth(tangle, 3)), (((1,),), many))
 
     def test_chains_and_knots(self):
-        # A twist closed to a rope or two: it can be filled otherwise than like a ring if the clock divides its crossings.
+        # A twist that is closed: if the clock divides its crossings it is filled otherwise than a ring, too.
         for many in range(2, 12):
             tangle = Tangle(0, [("open", 0), ("open", 1)] + [("over", 1)] * many + [("join", 2), ("join", 1)])
             for clock in CLOCKS:
