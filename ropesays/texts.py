@@ -26,8 +26,39 @@ def demand_items(items, line, places):
     The places are tuples of items. So an integer stands only as it is written, and one of too many digits is never
     made a number.
     """
-    for at, (item, place) in enumerate(zip(items, places)):
+    reading = Items(items, line)
+    for place in places:
+        reading.take(place)
+    reading.end()
+
+
+class Items:
+    """The items of a line, taken one behind another, where not each place is known ahead."""
+
+    def __init__(self, told, line):
+        self.told = told
+        self.line = line
+        self.at = 0
+
+    def peek(self):
+        """The item that stands next; None behind the last one."""
+        if self.at == len(self.told):
+            return None
+        return self.told[self.at]
+
+    def refuse(self):
+        """Refuse the item that stands next, or tell that it is missing."""
+        raise BadText(self.line, self.at)
+
+    def take(self, place):
+        """Take the next item, if it is one of those that its place wants."""
+        item = self.peek()
         if item not in place:
-            raise BadText(line, at)
-    if len(items) != len(places):
-        raise BadText(line, min(len(items), len(places)))
+            self.refuse()
+        self.at += 1
+        return item
+
+    def end(self):
+        """Refuse an item behind those that were taken."""
+        if self.peek() is not None:
+            self.refuse()

@@ -49,6 +49,18 @@ FUNCTIONS = {
     "check_rings": {"shows_ring": ("clock", "row", "value")},
     "fewest": {"fewest_sets": ("clock", "row")},
     "tied": {"tied_most": ("clock", "ends"), "tied": ("space",)},
+    "check_tied": {"shows_tied": ("space", "value")},
+    "systems": {"system_of": ("text",), "answers": ("system",)},
+    "roped": {
+        "fair_of": ("space",), "whites": ("clock", "row"), "blacks": ("clock", "row"), "white_space": ("space",),
+        "black_space": ("space",), "is_split": ("space",), "rope_of": ("system",),
+        "equations_of": ("tangle", "clock", "names"),
+    },
+    "closings": {
+        "lead_in": ("tangle",), "closed": ("one", "other"), "closed_depth": ("one", "other", "clock"),
+        "depths_of": ("tangle",),
+    },
+    "same": {"judged_same": ("one", "other", "clock")},
 }
 CLASSES = {
     "errors": {
@@ -61,10 +73,13 @@ CLASSES = {
     "tangles": {"Tangle": ("ends", "deeds")},
     "rows": {"Filled": ("marks",), "Barred": ("marks",)},
     "rings": {"Led": ("sets",), "Chess": ()},
+    "systems": {"System": ("clock", "names", "rows")},
+    "same": {"Same": (), "Unlike": ("row",)},
 }
 METHODS = {
     ("papers", "Paper"): ("__eq__",), ("papers", "Denial"): ("__eq__",),
     ("spaces", "Space"): ("__eq__", "__str__", "read"), ("tangles", "Tangle"): ("__eq__", "__str__", "read"),
+    ("systems", "System"): ("__eq__", "__str__", "read"),
 }
 
 
