@@ -5,27 +5,29 @@ from ropesays.forms import least_form
 from ropesays.steps import crossed
 
 
-def led_back(clock, ends, rows, deeds):
+def led_back(clock, ends, rows, deeds, more):
     """Rows that give the space of what some deeds let in from the space of some rows behind them.
 
-    The rows behind are tuples; the ring behind has so many ends.
+    The rows behind are tuples; the ring behind has so many ends. So many more numbers stand in each row behind those of
+    the ring, and stay there.
     """
     many = ends
     for word, gap in reversed(deeds):
         if word == "join":
-            rows = _ahead_of_join(many, rows, gap)
+            rows = _ahead_of_join(many, rows, gap, more)
             many += 2
         elif word == "open":
             many -= 2
-            rows = _ahead_of_open(clock, many, rows, gap)
+            rows = _ahead_of_open(clock, many, rows, gap, more)
         elif word == "turn":
-            rows = [row[many - gap:] + row[:many - gap] for row in rows]
+            rows = [row[many - gap:many] + row[:many - gap] + row[many:] for row in rows]
         else:
-            rows = [crossed(clock, row, gap, -1 if word == "over" else 1) for row in rows]
+            times = -1 if word == "over" else 1
+            rows = [crossed(clock, row[:many], gap, times) + row[many:] for row in rows]
     return rows
 
 
-def _ahead_of_join(many, rows, gap):
+def _ahead_of_join(many, rows, gap, more):
     """The rows ahead of a join at a gap, behind which so many ends are left."""
     wider = []
     for row in rows:
@@ -33,18 +35,18 @@ def _ahead_of_join(many, rows, gap):
         again = row[gap - 1:gap] if many > 0 else ()
         wider.append(row[:gap] + (0,) + again + row[gap:])
     # In the gap that is shut any number stands.
-    wider.append((0,) * gap + (1,) + (0,) * (many + 1 - gap))
+    wider.append((0,) * gap + (1,) + (0,) * (many + 1 - gap + more))
     return wider
 
 
-def _ahead_of_open(clock, many, rows, gap):
+def _ahead_of_open(clock, many, rows, gap, more):
     """The rows ahead of an open at a gap of a ring of so many ends."""
     if many == 0:
-        narrow = [row[:1] for row in rows]
+        narrow = [row[:1] + row[2:] for row in rows]
     else:
         narrow = [row[:gap + 1] + row[gap + 3:] for row in _alike(clock, rows, gap, gap + 2)]
     # What was unlike in the gap of the new rope alone is alike now.
-    return least_form(clock, max(many, 1), narrow)
+    return least_form(clock, max(many, 1) + more, narrow)
 
 
 def _alike(clock, rows, one, other):

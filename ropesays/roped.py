@@ -5,7 +5,7 @@ from ropesays.demands import demand_clock, demand_row
 from ropesays.errors import BadRow, Misfit
 from ropesays.rims import MOST_GAPS, chess_rows
 from ropesays.spaces import Space, demand_space, upright
-from ropesays.systems import System, answers, demand_names, demand_system
+from ropesays.systems import System, answers, demand_names
 from ropesays.tangles import demand_tangle
 from ropesays.through import through
 from ropesays.tied import tied
@@ -98,7 +98,6 @@ def is_split(space):
 
 def rope_of(system):
     """The tangle that is tied for the answers of a system."""
-    demand_system(system, "system")
     return tied(fair_of(answers(system)))
 
 

@@ -12,7 +12,7 @@ def through(tangle, clock):
     demand_tangle(tangle, "tangle")
     demand_clock(clock)
     # On the ring at last, without ends, each row is let through.
-    rows = led_back(clock, 0, [(1,)], tangle.deeds)
+    rows = led_back(clock, 0, [(1,)], tangle.deeds, 0)
     return Space(clock, max(tangle.ends, 1), rows)
 
 

@@ -41,6 +41,25 @@ def some_deeds(ends, many, source, most=24):
     return deeds + closing(now, source)
 
 
+def leading(ends, inner, source):
+    """Opens or joins that lead from a ring to one with so many ends."""
+    deeds, now = [], ends
+    while now != inner:
+        word = "open" if now < inner else "join"
+        deeds.append((word, source.choice(told_gaps(word, now))))
+        now = told_ends(word, now)
+    return deeds
+
+
+def some_band_deeds(ends, inner, many, source, most=24):
+    """So many fitting deeds by chance, and what leads behind them to a ring with so many ends."""
+    deeds, now = [], ends
+    for word, gap in some_deeds(ends, many, source, most)[:many]:
+        deeds.append((word, gap))
+        now = told_ends(word, now)
+    return deeds + leading(now, inner, source)
+
+
 def many_deeds(seed=1, most=24):
     """For each rim some lists of deeds, from a few to some dozens."""
     source = random.Random(seed)

@@ -61,6 +61,13 @@ FUNCTIONS = {
         "depths_of": ("tangle",),
     },
     "same": {"judged_same": ("one", "other", "clock")},
+    "check_same": {"shows_same": ("one", "other", "clock", "value")},
+    "bands": {
+        "idle": ("ends",), "put_ahead": ("band", "tangle"), "chained": ("one", "other"), "passing": ("band", "clock"),
+        "let_in": ("band", "space"),
+    },
+    "pictures": {"picture": ("tangle",), "filled": ("tangle", "clock", "marks")},
+    "scripts": {"tell_all": ("clock", "lines")},
 }
 CLASSES = {
     "errors": {
@@ -75,11 +82,14 @@ CLASSES = {
     "rings": {"Led": ("sets",), "Chess": ()},
     "systems": {"System": ("clock", "names", "rows")},
     "same": {"Same": (), "Unlike": ("row",)},
+    "bands": {"Band": ("ends", "inner", "deeds")},
+    "desk": {"Desk": ("clock",)},
 }
 METHODS = {
     ("papers", "Paper"): ("__eq__",), ("papers", "Denial"): ("__eq__",),
     ("spaces", "Space"): ("__eq__", "__str__", "read"), ("tangles", "Tangle"): ("__eq__", "__str__", "read"),
-    ("systems", "System"): ("__eq__", "__str__", "read"),
+    ("systems", "System"): ("__eq__", "__str__", "read"), ("bands", "Band"): ("__eq__", "__str__", "read"),
+    ("desk", "Desk"): ("kept", "tell"),
 }
 
 

@@ -3,16 +3,19 @@
 import inspect
 import unittest
 
+from ropesays.bands import Band, chained, idle, let_in, passing, put_ahead
 from ropesays.check_rings import shows_ring
 from ropesays.check_rows import shows_row
+from ropesays.check_same import shows_same
 from ropesays.check_tied import shows_tied
 from ropesays.clocks import inverse, number_of, row_sum, row_times
 from ropesays.closings import closed, closed_depth, depths_of, lead_in
-from ropesays.errors import (BadClock, BadNumber, BadRow, BadSpace, BadSystem, BadTangle, BadWord)
+from ropesays.errors import BadClock, BadNumber, BadRow, BadSpace, BadSystem, BadTangle, BadWord
 from ropesays.fairs import fair_count, fair_spaces, is_fair
 from ropesays.fewest import fewest_sets
 from ropesays.markings import broken_at, markings
 from ropesays.moves import moved, moves_at, pulled
+from ropesays.pictures import filled, picture
 from ropesays.regions import crossings_of, regions_of, rim_of, rings_of
 from ropesays.rims import beside, chess_rows, is_chess, swing, turned_space
 from ropesays.rings import judged_ring, may_set, set_at
@@ -32,6 +35,7 @@ TANGLE = Tangle(4, [("over", 1), ("join", 1), ("join", 1)])
 ROW = (0, 1, 0, 2)
 SPACE = through(TANGLE, 5)
 SYSTEM = System(5, ["x"], [[1]])
+BAND = Band(4, 4, [("over", 1), ("turn", 2)])
 
 CLOCK = ("clock", BadClock, 5)
 TANGLES = ("tangle", BadTangle, TANGLE)
@@ -81,6 +85,12 @@ CALLS = (
     (lead_in, TANGLES), (closed, of("one", BadTangle, TANGLE), of("other", BadTangle, TANGLE)),
     (closed_depth, of("one", BadTangle, TANGLE), of("other", BadTangle, TANGLE), CLOCK), (depths_of, TANGLES),
     (judged_same, of("one", BadTangle, TANGLE), of("other", BadTangle, TANGLE), CLOCK),
+    (shows_same, of("one", BadTangle, TANGLE), of("other", BadTangle, TANGLE), CLOCK, of("value", None, None)),
+    (Band, of("ends", BadTangle, 4), of("inner", BadTangle, 2), of("deeds", BadTangle, [("join", 1)])),
+    (idle, of("ends", BadNumber, 4)), (put_ahead, of("band", BadTangle, BAND), TANGLES),
+    (chained, of("one", BadTangle, BAND), of("other", BadTangle, BAND)), (passing, of("band", BadTangle, BAND), CLOCK),
+    (let_in, of("band", BadTangle, BAND), SPACES),
+    (picture, TANGLES), (filled, TANGLES, CLOCK, of("marks", BadRow, (0, 1, 2, 1))),
 )
 
 # Right for no parameter of these.
