@@ -179,6 +179,33 @@ class TestStatements(unittest.TestCase):
             if isinstance(node.func, ast.Attribute):
                 self.assertNotEqual(node.func.attr, "sort", (name, node.lineno))
 
+    def test_tables_are_only_read(self):
+        # A dict or a list at the top of a file is indexed, or copied; it is not passed on itself.
+        for name, text in files().items():
+            tree = ast.parse(text)
+            tables = [node.targets[0].id for node in tree.body if isinstance(node, ast.Assign)
+                      and isinstance(node.value, (ast.Dict, ast.List))]
+            read = [node.value for node in ast.walk(tree) if isinstance(node, ast.Subscript)]
+            for node in ast.walk(tree):
+                if isinstance(node, ast.Call) and isinstance(node.func, ast.Name) and node.func.id in ("list", "dict"):
+                    read += node.args
+                if isinstance(node, ast.Compare) and isinstance(node.ops[0], (ast.In, ast.NotIn)):
+                    read += node.comparators
+            for node in ast.walk(tree):
+                if isinstance(node, ast.Name) and node.id in tables and isinstance(node.ctx, ast.Load):
+                    self.assertIn(node, read, (name, node.lineno))
+
+    def test_methods_are_called_where_they_stand(self):
+        own = {node.name for _, node in nodes(ast.FunctionDef)}
+        for name, text in files().items():
+            tree = ast.parse(text)
+            called = [node.func for node in ast.walk(tree) if isinstance(node, ast.Call)]
+            stored = {node.attr for node in ast.walk(tree) if isinstance(node, ast.Attribute)
+                      and isinstance(node.ctx, ast.Store)}
+            for node in ast.walk(tree):
+                if isinstance(node, ast.Attribute) and node.attr in own - stored and node.attr[:2] != "__":
+                    self.assertIn(node, called, (name, node.lineno))
+
     def test_literals(self):
         for name, node in nodes(ast.Constant):
             self.assertNotIsInstance(node.value, (float, complex), name)
