@@ -34,8 +34,7 @@ def take_names(items):
     """The unlike names that stand next among the Items of a line: one at least, and not too many."""
     names = []
     while are_names([*names, items.peek()]):
-        names.append(items.peek())
-        items.take(names)
+        names.append(items.take_any())
     if not names:
         items.refuse()
     return names
@@ -57,7 +56,7 @@ def take_row(items, clock, names):
     """The row whose line stands next among the Items of a line."""
     row = [0] * len(names)
     if items.peek() == "0":
-        items.take(("0",))
+        items.take_any()
     else:
         _take_terms(items, clock, names, row)
     items.take(("=",))
@@ -71,7 +70,7 @@ def _take_terms(items, clock, names, row):
     at = _take_term(items, numbers, names, 0, row)
     # Each name stands behind those so far; so no other term comes behind the last one.
     while at + 1 < len(names) and items.peek() == "+":
-        items.take(("+",))
+        items.take_any()
         at = _take_term(items, numbers, names, at + 1, row)
 
 
@@ -79,7 +78,7 @@ def _take_term(items, numbers, names, first, row):
     """Put the number of the next term, of one of the names from the first one on, into a row; the index of the name."""
     number = 1
     if items.peek() in numbers:
-        number = int(items.take(numbers))
+        number = int(items.take_any())
     at = names.index(items.take(names[first:]))
     row[at] = number
     return at
@@ -97,13 +96,13 @@ def _take_side(items, names, behind):
     """How often each name is added on a side, behind which one of some items stands, or None for no item."""
     times = {name: 0 for name in names}
     if items.peek() == "0":
-        items.take(("0",))
+        items.take_any()
         if items.peek() in behind:
             return times
         # It belongs to a term, which adds nothing.
         items.take(times)
     else:
-        sign = items.take(("-",)) if items.peek() == "-" else "+"
+        sign = items.take_any() if items.peek() == "-" else "+"
         _add_term(items, sign, times)
     while items.peek() not in behind:
         _add_term(items, items.take(("+", "-")), times)
@@ -121,6 +120,6 @@ def _add_term(items, sign, times):
     """Add the next term, behind a sign, to the times of its name."""
     number = 1
     if _is_times(items.peek()):
-        number = int(items.take((items.peek(),)))
+        number = int(items.take_any())
     name = items.take(times)
     times[name] += number if sign == "+" else -number

@@ -56,7 +56,7 @@ def _take_name(items, clock):
         items.refuse()
     if name[0] not in LETTERS or not all([sign in SIGNS for sign in name]):
         items.refuse()
-    return items.take((name,))
+    return items.take_any()
 
 
 def _take_numbers(items, clock, least, most):

@@ -52,11 +52,14 @@ class Items:
 
     def take(self, place):
         """Take the next item, if it is one of those that its place wants."""
-        item = self.peek()
-        if item not in place:
+        if self.peek() not in place:
             self.refuse()
+        return self.take_any()
+
+    def take_any(self):
+        """Take the next item, whatever it is."""
         self.at += 1
-        return item
+        return self.told[self.at - 1]
 
     def end(self):
         """Refuse an item behind those that were taken."""
